@@ -1,0 +1,1 @@
+"""Who joins a treaty, if each state would join if others do."""
