@@ -14,9 +14,33 @@ NUMBERS = {
     "jn_round": 8,
     "jn_rounds": 9,
     "jn_first": 10,
+    "jn_many": 11,
+    "jn_nth": 12,
+    "jn_around": 13,
+    "jn_refuses": 14,
+    "jn_key": 15,
+    "jn_easier": 16,
+    "jn_pledge": 17,
+    "jn_back": 18,
+    "jn_again": 19,
+    "jn_state": 20,
 }
 
 FAR = 4294967295
+
+
+def every_question(n):
+    """Each call that changes nothing, with every number that is allowed and the first that is not."""
+    calls = [("jn_greatest",), ("jn_least",), ("jn_many",), ("jn_key",)]
+    for i in range(n + 1):
+        for name in ("jn_told", "jn_around", "jn_refuses"):
+            calls.append((name, i))
+    for s in range((1 << n) + 1):
+        for name in ("jn_holds", "jn_closed", "jn_with", "jn_rounds", "jn_first", "jn_nth"):
+            calls.append((name, s))
+        for i in range(n + 1):
+            calls.append(("jn_round", s, i))
+    return calls
 
 
 def as_numbers(calls):

@@ -19,12 +19,27 @@ class Plainly:
     """A treaty by the definitions alone; each method answers as the call of its name does."""
 
     def __init__(self):
-        self.wants = None
+        # What all wanted one change behind another, and which of these is so now.
+        self.told = None
+        self.now = None
+
+    @property
+    def wants(self):
+        return self.told[self.now]
+
+    def change(self, changed):
+        """changed: what the states that are told anew want."""
+        wants = [changed.get(i, want) for i, want in enumerate(self.wants)]
+        self.told = self.told[:self.now + 1] + [wants]
+        while len(self.told) > 21:
+            self.told.pop(0)
+        self.now = len(self.told) - 1
 
     def jn_start(self, n):
         if n not in range(1, 9):
             return [-22]
-        self.wants = [(0, 0)] * n
+        self.told = [[(0, 0)] * n]
+        self.now = 0
         return [0]
 
     def missing(self, i):
@@ -65,7 +80,7 @@ class Plainly:
         if need > len(self.wants) or self.no_set(named) or i in as_set(named):
             return [-22]
         before = self.wants[i]
-        self.wants[i] = (need, named)
+        self.change({i: (need, named)})
         return list(before)
 
     def jn_told(self, i):
@@ -83,10 +98,78 @@ class Plainly:
         outside = [i for i in range(len(self.wants)) if i not in as_set(s) and self.met(i, as_set(s))]
         return [0, outside[0] + 1] if outside else [1, 0]
 
-    def jn_greatest(self):
-        holding = [states for states in all_sets(len(self.wants)) if self.holds(states)]
-        (greatest,) = [states for states in holding if all(other <= states for other in holding)]
+    def holding(self):
+        return [states for states in all_sets(len(self.wants)) if self.holds(states)]
+
+    def greatest(self, sets):
+        (greatest,) = [states for states in sets if all(other <= states for other in sets)]
         return [len(greatest), as_number(greatest)]
+
+    def jn_greatest(self):
+        return self.greatest(self.holding())
+
+    def jn_refuses(self, i):
+        if self.missing(i):
+            return [-2]
+        return self.greatest([states for states in self.holding() if i not in states])
+
+    def jn_key(self):
+        members = sorted(as_set(self.jn_greatest()[1]))
+        if not members:
+            return [-33]
+        left = {i: self.jn_refuses(i)[0] for i in members}
+        fewest = min(left.values())
+        return [min(i for i in members if left[i] == fewest), fewest]
+
+    def jn_many(self):
+        closed = [states for states in self.holding() if self.jn_closed(as_number(states)) == [1, 0]]
+        return [len(self.holding()), len(closed)]
+
+    def jn_nth(self, k):
+        numbers = sorted(as_number(states) for states in self.holding())
+        if k not in range(len(numbers)):
+            return [-33]
+        return [len(as_set(numbers[k])), numbers[k]]
+
+    def jn_around(self, i):
+        if self.missing(i):
+            return [-2]
+        around = sorted((len(states), as_number(states)) for states in self.holding() if i in states)
+        return list(around[0]) if around else [-33]
+
+    def jn_easier(self, i):
+        if self.missing(i):
+            return [-2]
+        need, named = self.wants[i]
+        if need == 0:
+            return [-33]
+        self.change({i: (need - 1, named)})
+        return [need - 1]
+
+    def jn_pledge(self, s):
+        if self.no_set(s):
+            return [-22]
+        new = [i for i in as_set(s) if self.wants[i] != (0, 0)]
+        if not new:
+            return [-17]
+        self.change({i: (0, 0) for i in as_set(s)})
+        return [len(new)]
+
+    def jn_back(self):
+        if self.now == 0:
+            return [-2]
+        self.now -= 1
+        return [self.now]
+
+    def jn_again(self):
+        still = len(self.told) - 1 - self.now
+        if still == 0:
+            return [-2]
+        self.now += 1
+        return [still - 1]
+
+    def jn_state(self):
+        return [len(self.wants), self.now, len(self.told) - 1 - self.now]
 
     def jn_least(self):
         return self.jn_with(0)

@@ -117,3 +117,21 @@ class Language(unittest.TestCase):
             self.assertEqual(sorted(top), sorted(set(top)), path)
             inner = {node.arg for node in ast.walk(tree) if isinstance(node, ast.arg)}
             self.assertEqual(inner & set(top), set(), path)
+
+    def test_methods_and_values_of_objects(self):
+        methods = set()
+        values = set()
+        for path, node in self.nodes(ast.ClassDef):
+            methods |= {part.name for part in node.body if isinstance(part, ast.FunctionDef)} - {"__init__"}
+        for path, node in self.nodes(ast.Attribute):
+            if isinstance(node.ctx, ast.Store):
+                values.add(node.attr)
+        self.assertEqual(methods & values, set())
+        for kind in (str, int, list, tuple, dict, set, bytes):
+            self.assertEqual((methods | values) & set(dir(kind)), set())
+
+    def test_key_is_the_only_keyword(self):
+        for path, node in self.nodes(ast.Call):
+            for given in node.keywords:
+                self.assertIn(node.func.id, ("min", "max", "sorted"), (path, node.lineno))
+                self.assertEqual(given.arg, "key", (path, node.lineno))

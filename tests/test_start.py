@@ -2,8 +2,6 @@
 
 import unittest
 
-from treatyjoin.treaty import Treaty
-from treatyjoin.wants import Want
 from tests.lines import FAR, ask
 
 
@@ -64,32 +62,38 @@ class Start(unittest.TestCase):
         )
         self.assertEqual(given, [[0], [-22], [0], [1, 0], [0, 0], [0], [1, 0], [-22], [-2]])
 
+    def test_again_there_are_no_changes(self):
+        given = ask(
+            ("jn_start", 3),
+            ("jn_want", 0, 3, 6),
+            ("jn_want", 2, 1, 1),
+            ("jn_easier", 0),
+            ("jn_back",),
+            ("jn_state",),
+            ("jn_start", 3),
+            ("jn_state",),
+            ("jn_back",),
+            ("jn_again",),
+            ("jn_told", 0),
+            ("jn_told", 2),
+        )
+        self.assertEqual(given[4:], [[2], [3, 2, 1], [0], [3, 0, 0], [-2], [-2], [0, 0], [0, 0]])
 
-class Changes(unittest.TestCase):
-    """What is kept so that changes can be taken back."""
-
-    def wants(self, treaty):
-        return [(want.need, want.named) for want in treaty.wants]
-
-    def test_none_at_the_start(self):
-        treaty = Treaty()
-        treaty.begin(2)
-        treaty.change(0, Want(1, 2))
-        treaty.begin(2)
-        self.assertEqual(treaty.past, [])
-
-    def test_each_keeps_what_was_before(self):
-        treaty = Treaty()
-        treaty.begin(2)
-        treaty.change(1, Want(1, 1))
-        treaty.change(0, Want(2, 0))
-        self.assertEqual(self.wants(treaty), [(2, 0), (1, 1)])
-        kept = [[(want.need, want.named) for want in wants] for wants in treaty.past]
-        self.assertEqual(kept, [[(0, 0), (0, 0)], [(0, 0), (1, 1)]])
-
-    def test_the_last_twenty_are_kept(self):
-        treaty = Treaty()
-        treaty.begin(1)
-        for k in range(25):
-            treaty.change(0, Want(k, 0))
-        self.assertEqual([wants[0].need for wants in treaty.past], list(range(4, 24)))
+    def test_refused_behind_changes_they_stay(self):
+        for n in (0, 9, FAR):
+            given = ask(
+                ("jn_start", 3),
+                ("jn_want", 0, 3, 6),
+                ("jn_want", 2, 1, 1),
+                ("jn_back",),
+                ("jn_start", n),
+                ("jn_state",),
+                ("jn_told", 0),
+                ("jn_again",),
+                ("jn_told", 2),
+                ("jn_start", n),
+                ("jn_back",),
+                ("jn_back",),
+                ("jn_back",),
+            )
+            self.assertEqual(given[4:], [[-22], [3, 1, 1], [3, 6], [0], [1, 1], [-22], [1], [0], [-2]])

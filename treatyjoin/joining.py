@@ -6,18 +6,25 @@ from treatyjoin.wants import (
     everyone,
     fewest_first,
     greatest_within,
+    greatest_without,
     has,
     joined_by_round,
+    left_by_refusal,
     lowest_and_one,
     met_outside,
+    sets_that_hold,
     size,
     unmet_within,
+    wanting_something,
     who_all_join,
+    with_pledge,
+    with_want,
 )
 
 MOST_STATES = 8
 
 NOT_THERE = -2
+ALREADY_SO = -17
 NOT_FIT = -22
 NOT_TO_BE_HAD = -33
 
@@ -48,7 +55,7 @@ def call_want(treaty, given):
     if need > len(treaty.wants) or not treaty.has_set(named) or has(named, i):
         return [NOT_FIT]
     before = treaty.wants[i]
-    treaty.change(i, Want(need, named))
+    treaty.change(with_want(treaty.wants, i, Want(need, named)))
     return [before.need, before.named]
 
 
@@ -117,6 +124,86 @@ def call_first(treaty, given):
     return told_set(fewest_first(treaty.wants, g))
 
 
+def call_many(treaty, given):
+    holding = sets_that_hold(treaty.wants)
+    both = [s for s in holding if met_outside(treaty.wants, s) == 0]
+    return [len(holding), len(both)]
+
+
+def call_nth(treaty, given):
+    k = given[0]
+    holding = sets_that_hold(treaty.wants)
+    if k >= len(holding):
+        return [NOT_TO_BE_HAD]
+    return told_set(holding[k])
+
+
+def call_around(treaty, given):
+    i = given[0]
+    if not treaty.has_state(i):
+        return [NOT_THERE]
+    around = [s for s in sets_that_hold(treaty.wants) if has(s, i)]
+    if len(around) == 0:
+        return [NOT_TO_BE_HAD]
+    # Numbers rise, and min takes the first of like ones.
+    return told_set(min(around, key=size))
+
+
+def call_refuses(treaty, given):
+    i = given[0]
+    if not treaty.has_state(i):
+        return [NOT_THERE]
+    return told_set(greatest_without(treaty.wants, i))
+
+
+def call_key(treaty, given):
+    refusals = left_by_refusal(treaty.wants)
+    if len(refusals) == 0:
+        return [NOT_TO_BE_HAD]
+    fewest = min(refusals)
+    return [fewest[1], fewest[0]]
+
+
+def call_easier(treaty, given):
+    i = given[0]
+    if not treaty.has_state(i):
+        return [NOT_THERE]
+    want = treaty.wants[i]
+    if want.need == 0:
+        return [NOT_TO_BE_HAD]
+    treaty.change(with_want(treaty.wants, i, Want(want.need - 1, want.named)))
+    return [want.need - 1]
+
+
+def call_pledge(treaty, given):
+    s = given[0]
+    if not treaty.has_set(s):
+        return [NOT_FIT]
+    new = wanting_something(treaty.wants, s)
+    if new == 0:
+        return [ALREADY_SO]
+    treaty.change(with_pledge(treaty.wants, s))
+    return [size(new)]
+
+
+def call_back(treaty, given):
+    if len(treaty.past) == 0:
+        return [NOT_THERE]
+    treaty.take_back()
+    return [len(treaty.past)]
+
+
+def call_again(treaty, given):
+    if len(treaty.ahead) == 0:
+        return [NOT_THERE]
+    treaty.do_again()
+    return [len(treaty.ahead)]
+
+
+def call_state(treaty, given):
+    return [len(treaty.wants), len(treaty.past), len(treaty.ahead)]
+
+
 # A call's number is its place in both of these.
 CALLS = (
     call_start,
@@ -130,8 +217,18 @@ CALLS = (
     call_round,
     call_rounds,
     call_first,
+    call_many,
+    call_nth,
+    call_around,
+    call_refuses,
+    call_key,
+    call_easier,
+    call_pledge,
+    call_back,
+    call_again,
+    call_state,
 )
-HOW_MANY_GIVEN = (1, 3, 1, 1, 1, 0, 0, 1, 2, 1, 1)
+HOW_MANY_GIVEN = (1, 3, 1, 1, 1, 0, 0, 1, 2, 1, 1, 0, 1, 1, 1, 0, 1, 1, 0, 0, 0)
 
 
 def answers(calls):

@@ -1,4 +1,4 @@
-"""What the states want, and the changes to it that can be taken back."""
+"""What the states want, and the changes to it that can be taken back and done again."""
 
 from treatyjoin.wants import Want
 
@@ -10,17 +10,30 @@ class Treaty:
 
     def __init__(self):
         self.wants = ()
+        # What all wanted before each change that can be taken back, and behind
+        # each that can be done again; the nearest one lies last in both.
         self.past = []
+        self.ahead = []
 
     def begin(self, n):
         self.wants = tuple([Want(0, 0) for i in range(n)])
         self.past = []
+        self.ahead = []
 
-    def change(self, i, want):
-        """Let state i want that; what all wanted before is kept, to be taken back."""
+    def change(self, wants):
+        """Let that be what all want."""
         # The wants are a new tuple with each change, so what is kept stays as it was.
         self.past = (self.past + [self.wants])[-CHANGES_KEPT:]
-        self.wants = self.wants[:i] + (want,) + self.wants[i + 1:]
+        self.ahead = []
+        self.wants = wants
+
+    def take_back(self):
+        self.ahead.append(self.wants)
+        self.wants = self.past.pop()
+
+    def do_again(self):
+        self.past.append(self.wants)
+        self.wants = self.ahead.pop()
 
     def has_state(self, i):
         return i < len(self.wants)

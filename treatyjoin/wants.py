@@ -35,6 +35,29 @@ def everyone(wants):
     return (1 << len(wants)) - 1
 
 
+def wants_nothing(want):
+    return want.need == 0 and want.named == 0
+
+
+def with_want(wants, i, want):
+    """The same wants, but that state i wants this."""
+    return wants[:i] + (want,) + wants[i + 1:]
+
+
+def wanting_something(wants, s):
+    """Those of the set s who want something."""
+    wanting = 0
+    for i, want in enumerate(wants):
+        if has(s, i) and not wants_nothing(want):
+            wanting = wanting | (1 << i)
+    return wanting
+
+
+def with_pledge(wants, s):
+    """The same wants, but that those of the set s want nothing."""
+    return tuple([Want(0, 0) if has(s, i) else want for i, want in enumerate(wants)])
+
+
 def met_by(wants, s):
     """All states, in the set s or not, whose wants are met by it."""
     count = size(s)
@@ -64,6 +87,21 @@ def greatest_within(wants, s):
         s = without(s, unmet)
         unmet = unmet_within(wants, s)
     return s
+
+
+def greatest_without(wants, i):
+    return greatest_within(wants, without(everyone(wants), 1 << i))
+
+
+def left_by_refusal(wants):
+    """For each state of the greatest set that holds: how many are left if it refuses, and the state."""
+    greatest = greatest_within(wants, everyone(wants))
+    return [(size(greatest_without(wants, i)), i) for i in range(len(wants)) if has(greatest, i)]
+
+
+def sets_that_hold(wants):
+    """All sets that hold, as their numbers rise."""
+    return [s for s in range(everyone(wants) + 1) if unmet_within(wants, s) == 0]
 
 
 def joined_by_round(wants, first):
